@@ -20,3 +20,7 @@ func scribble[T any](list []T, entry T) {
 		list[i] = entry
 	}
 }
+
+func between(n, least, most int) bool {
+	return n >= least && n <= most
+}

@@ -145,7 +145,6 @@ func TestFrameOk(t *testing.T) {
 
 // plainFrameOk tells for each kind what the other parts may be.
 func plainFrameOk(f impl.Frame) bool {
-	between := func(n, least, most int) bool { return n >= least && n <= most }
 	limits := map[int]struct{ leastSeq, mostSeq, leastId, mostId, mostBody int }{
 		frSend:  {1, maxSeq, 1, maxId, maxBody},
 		frAck:   {1, maxSeq, 0, 0, 0},
