@@ -571,6 +571,56 @@ func TestTickOfSteps(t *testing.T) {
 	}
 }
 
+// What is too old at this very tick isn't knocked for any more; one tick earlier it is, for the last time.
+func TestTickWhereOneTurnsOld(t *testing.T) {
+	for _, c := range []struct {
+		ttl, status  int
+		sent, become int
+	}{
+		{5, evWaiting, 0, evDead}, {6, evWaiting, 0, evDead}, {7, evWaiting, 0, evDead}, {8, evWaiting, 1, evFlying}, {9, evWaiting, 1, evFlying},
+		{5, evFlying, 0, evDead}, {6, evFlying, 0, evDead}, {7, evFlying, 0, evDead}, {8, evFlying, 0, evFlying}, {9, evFlying, 0, evFlying},
+	} {
+		// At is 4, and the tick is the one from 10 to 11.
+		g := sharing(0, 20, 8, 1)
+		g.Events[0].Ttl = c.ttl
+		if c.status == evFlying {
+			setStatus(&g, 1, evFlying)
+			addFly(&g, 0, 1)
+			g.Links[0].Flying[0].Until = 12
+		}
+		got, frames := impl.Tick(g, 0)
+		flying := 0
+		if c.become == evFlying {
+			flying = 1
+		}
+		if len(frames) != c.sent || got.Events[0].Status != c.become || len(got.Links[0].Flying) != flying || len(got.Letters) != 1-flying || !impl.GateOk(got) {
+			t.Errorf("with %+v: %+v, %q", c, got, frames)
+		}
+	}
+}
+
+// What is late at this very tick is knocked for again in it, but no sooner than at Next.
+func TestTickWhereOneIsLate(t *testing.T) {
+	for _, c := range []struct {
+		until, next  int
+		sent, become int
+	}{
+		{0, 11, 1, evFlying}, {10, 11, 1, evFlying}, {11, 11, 1, evFlying}, {12, 11, 0, evFlying},
+		{10, 12, 0, evWaiting}, {11, 12, 0, evWaiting}, {12, 12, 0, evFlying}, {11, maxNext, 0, evWaiting}, {11, 0, 1, evFlying},
+	} {
+		g := sharing(0, 20, 8, 1)
+		g.Events[0].Tries, g.Events[0].Next = 1, c.next
+		setStatus(&g, 1, evFlying)
+		addFly(&g, 0, 1)
+		g.Links[0].Flying[0].Until = c.until
+		seq := g.Links[0].Seq
+		got, frames := impl.Tick(g, 0)
+		if len(frames) != c.sent || got.Events[0].Status != c.become || got.Events[0].Tries != 1+c.sent || got.Links[0].Seq != seq+c.sent || !impl.GateOk(got) {
+			t.Errorf("with %+v: %+v, %q", c, got, frames)
+		}
+	}
+}
+
 func TestTickWhereLettersAreFull(t *testing.T) {
 	for letters := 1; letters <= 3; letters++ {
 		g := sharing(0, 20, 8, 1, 1, 1)
@@ -670,6 +720,7 @@ type run struct {
 	t      *testing.T
 	r      *rand.Rand
 	gate   impl.Gate
+	draw   int
 	knocks map[int]knocked
 	again  int
 	frames int
@@ -692,11 +743,15 @@ func (x *run) come() {
 		}
 		x.gate, _ = impl.Drain(x.gate)
 	}
+	if !impl.GateOk(x.gate) {
+		x.t.Fatalf("it isn't right: %+v", x.gate)
+	}
 }
 
 func (x *run) tick() {
 	before := x.gate
-	g, frames := impl.Tick(before, x.r.IntN(5000))
+	x.draw = x.r.IntN(5000)
+	g, frames := impl.Tick(before, x.draw)
 	x.gate = g
 	costs := make([]int, len(g.Left))
 	for _, s := range frames {
@@ -731,7 +786,8 @@ func (x *run) frame(before impl.Gate, s string) impl.Event {
 			x.t.Fatalf("%d, knocked for at %d, is knocked for again at %d, ahead of %d", f.Id, last.at, x.gate.Now, last.soonest)
 		}
 	}
-	x.knocks[f.Id] = knocked{x.gate.Now, x.gate.Now + max(c.Timeout, plainDelay(c.Policy, e.Tries-1))}
+	wait := plainDelay(c.Policy, e.Tries-1) + (x.draw+7*f.Id)%(c.Policy.Jitter+1)
+	x.knocks[f.Id] = knocked{x.gate.Now, x.gate.Now + max(c.Timeout, wait)}
 	return e
 }
 
