@@ -1075,6 +1075,16 @@ func TestGatesThatAreShaken(t *testing.T) {
 	}
 }
 
+// ofOneNumber is a Gate in which each number is the same one.
+func ofOneNumber(n int) impl.Gate {
+	return impl.Gate{
+		Config: impl.Config{Devices: n, Queue: n, Window: n, Timeout: n, Quantum: n, Budget: n, Letters: n, Policy: impl.Policy{Base: n, Cap: n, Jitter: n, Ttl: n}},
+		Now:    n, Last: n, Turn: n, Left: []int{n}, Letters: []int{n}, Taken: n, Acked: n, Drained: n,
+		Events: []impl.Event{{Id: n, Device: n, Cost: n, At: n, Ttl: n, Tries: n, Next: n, Status: n}},
+		Links:  []impl.Link{{Up: true, Epoch: n, Seq: n, Flying: []impl.Fly{{Seq: n, Id: n, Until: n}}}},
+	}
+}
+
 func TestGatesOfAnyLists(t *testing.T) {
 	const least, most = math.MinInt, math.MaxInt
 	long := impl.Gate{Config: mostConfig(), Now: maxTime, Last: maxId, Events: make([]impl.Event, 20000), Links: make([]impl.Link, 20000), Left: make([]int, 20000), Letters: make([]int, 20000), Taken: maxId}
@@ -1084,12 +1094,7 @@ func TestGatesOfAnyLists(t *testing.T) {
 	long.Links = []impl.Link{{Up: true, Seq: maxSeq, Flying: make([]impl.Fly, 20000)}}
 	sameAsked(t, "long", long)
 	for _, n := range []int{least, -1, 0, 1, most} {
-		sameAsked(t, "of one number", impl.Gate{
-			Config: impl.Config{Devices: n, Queue: n, Window: n, Timeout: n, Quantum: n, Budget: n, Letters: n, Policy: impl.Policy{Base: n, Cap: n, Jitter: n, Ttl: n}},
-			Now:    n, Last: n, Turn: n, Left: []int{n}, Letters: []int{n}, Taken: n, Acked: n, Drained: n,
-			Events: []impl.Event{{Id: n, Device: n, Cost: n, At: n, Ttl: n, Tries: n, Next: n, Status: n}},
-			Links:  []impl.Link{{Up: true, Epoch: n, Seq: n, Flying: []impl.Fly{{Seq: n, Id: n, Until: n}}}},
-		})
+		sameAsked(t, "of one number", ofOneNumber(n))
 	}
 }
 

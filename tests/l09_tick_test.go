@@ -726,6 +726,14 @@ type run struct {
 	frames int
 }
 
+// newRun has a Config of any small numbers, in which nothing lasts longer than the longest.
+func newRun(t *testing.T, r *rand.Rand, longest int) *run {
+	devices := 1 + r.IntN(maxDevice)
+	c := impl.Config{Devices: devices, Queue: 1 + r.IntN(maxQueue), Window: 1 + r.IntN(4), Timeout: 1 + r.IntN(9), Quantum: 1 + r.IntN(5), Budget: 1 + r.IntN(devices), Letters: 1 + r.IntN(4)}
+	c.Policy = impl.Policy{Base: 1 + r.IntN(3), Cap: 3 + r.IntN(20), Jitter: r.IntN(9), Ttl: 1 + r.IntN(longest)}
+	return &run{t: t, r: r, gate: impl.NewGate(c), knocks: map[int]knocked{}}
+}
+
 func (x *run) come() {
 	device := 1 + x.r.IntN(x.gate.Config.Devices)
 	switch x.r.IntN(10) {
@@ -813,13 +821,9 @@ func (x *run) isKept() {
 func TestTicksKeepAGateRight(t *testing.T) {
 	again, frames, dead := 0, 0, 0
 	for seed := range uint64(40) {
-		r := rand.New(rand.NewPCG(9, 100+seed))
-		devices := 1 + r.IntN(maxDevice)
-		c := impl.Config{Devices: devices, Queue: 1 + r.IntN(maxQueue), Window: 1 + r.IntN(4), Timeout: 1 + r.IntN(9), Quantum: 1 + r.IntN(5), Budget: 1 + r.IntN(devices), Letters: 1 + r.IntN(4)}
-		c.Policy = impl.Policy{Base: 1 + r.IntN(3), Cap: 3 + r.IntN(20), Jitter: r.IntN(9), Ttl: 1 + r.IntN(200)}
-		x := &run{t: t, r: r, gate: impl.NewGate(c), knocks: map[int]knocked{}}
+		x := newRun(t, rand.New(rand.NewPCG(9, 100+seed)), 200)
 		for range 600 {
-			for range r.IntN(3) {
+			for range x.r.IntN(3) {
 				x.come()
 			}
 			x.tick()
